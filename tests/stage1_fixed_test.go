@@ -189,9 +189,6 @@ func TestAQuotientsProductIsNear(t *testing.T) {
 			tried++
 			off := impl.FixMul(q, b) - a
 			far := max(b, -b)/(2*impl.One) + 1
-			if a == impl.MaxFixed || a == -impl.MaxFixed {
-				far++
-			}
 			if off > far || -off > far {
 				t.Fatalf("%d / %d = %d, and back %d off, more than %d", a, b, q, off, far)
 			}
@@ -246,7 +243,7 @@ func TestSinOfTold(t *testing.T) {
 		{-1024, -65536, 0}, {-2048, 0, -65536}, {-3072, 65536, 0}, {-4096, 0, 65536}, {-4097, -100, 65531},
 		{512, 46341, 46341}, {1536, 46341, -46341}, {2560, -46341, -46341}, {3584, -46341, 46341},
 		{math.MinInt, 0, 65536}, {math.MaxInt, -100, 65531}, {math.MinInt + 1, 100, 65531},
-		{math.MaxInt - 1023, 0 - 65536, 0},
+		{math.MaxInt - 1023, -65536, 0},
 	} {
 		if s := impl.SinOf(c.angle); s != c.sin {
 			t.Errorf("SinOf(%d) = %d, not %d", c.angle, s, c.sin)
