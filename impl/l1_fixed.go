@@ -105,7 +105,7 @@ func AngleOf(x int, y int) int {
 
 // NextCoin gives the seed behind this one, and the coin of that next seed.
 func NextCoin(seed int) (int, int) {
-	if seed < 0 || seed > maxSeed {
+	if !goodSeed(seed) {
 		return 0, 0
 	}
 	next := (seed*1103515245 + 12345) % (maxSeed + 1)
@@ -123,6 +123,10 @@ func GoodName(s string) bool {
 		}
 	}
 	return true
+}
+
+func goodSeed(seed int) bool {
+	return 0 <= seed && seed <= maxSeed
 }
 
 func isLetter(b byte) bool {
