@@ -884,7 +884,7 @@ func TestFillsOfAllSmallFields(t *testing.T) {
 func TestFillsOfAllSmallRows(t *testing.T) {
 	for bits := range 1 << 9 {
 		lists, barred := listsByBits(3, bits), sameLists(3, nil)
-		for number := bits % 3; number < 64; number += 3 {
+		for number := range 64 {
 			row, column := tilesByNumber(3, 1, 3, number), tilesByNumber(1, 3, 3, number)
 			across := impl.Rules{Sorts: 3, Right: lists, Down: barred}
 			wantFill(t, "all rows", across, row, fillByBeginnings(across, row), true)
