@@ -1,6 +1,7 @@
 package tests
 
 import (
+	"math"
 	"reflect"
 	"testing"
 )
@@ -88,7 +89,36 @@ func bare(v reflect.Value) reflect.Value {
 
 // alike tells whether two values say the same, the empty list and the nil list being one.
 func alike(a any, b any) bool {
-	return reflect.DeepEqual(bare(reflect.ValueOf(a)).Interface(), bare(reflect.ValueOf(b)).Interface())
+	return sameThing(bare(reflect.ValueOf(a)), bare(reflect.ValueOf(b)))
+}
+
+// sameThing compares floats by their bits, so that NaN is itself and the two noughts are two.
+func sameThing(a reflect.Value, b reflect.Value) bool {
+	if a.Type() != b.Type() {
+		return false
+	}
+	switch a.Kind() {
+	case reflect.Float64:
+		return math.Float64bits(a.Float()) == math.Float64bits(b.Float())
+	case reflect.Slice, reflect.Array:
+		if a.Len() != b.Len() {
+			return false
+		}
+		for i := range a.Len() {
+			if !sameThing(a.Index(i), b.Index(i)) {
+				return false
+			}
+		}
+		return true
+	case reflect.Struct:
+		for i := range a.NumField() {
+			if !sameThing(a.Field(i), b.Field(i)) {
+				return false
+			}
+		}
+		return true
+	}
+	return a.Equal(b)
 }
 
 // opened gives v with its lists as long as their room is.
@@ -162,7 +192,7 @@ func purely(t *testing.T, what string, f any, args ...any) []any {
 	var out []any
 	taken := []room{}
 	for i, v := range given {
-		if !reflect.DeepEqual(opened(v).Interface(), kept[i].Interface()) {
+		if !sameThing(opened(v), kept[i]) {
 			t.Errorf("%s: argument %d was written into", what, i)
 		}
 		taken = append(taken, roomsOf(v)...)
